@@ -52,11 +52,37 @@ func mixedBits(source *rand.Rand, many int) string {
 
 // allBits returns every bit string of at most so many bits.
 func allBits(most int) []string {
+	return allOf("01", most)
+}
+
+// allOf returns every string of at most so many of these bytes.
+func allOf(letters string, most int) []string {
 	list := []string{""}
 	for i := 0; len(list[i]) < most; i++ {
-		list = append(list, list[i]+"0", list[i]+"1")
+		for k := range len(letters) {
+			list = append(list, list[i]+letters[k:k+1])
+		}
 	}
 	return list
+}
+
+// mixedOf is a text in which these bytes are frequent.
+func mixedOf(source *rand.Rand, letters string, many int) string {
+	text := []byte(mixedBytes(source, many))
+	for i := range text {
+		if source.Intn(3) > 0 {
+			text[i] = letters[source.Intn(len(letters))]
+		}
+	}
+	return string(text)
+}
+
+// sameOk checks a text that comes with a bool.
+func sameOk(t *testing.T, what string, text string, ok bool, want string, wanted bool) {
+	t.Helper()
+	if text != want || ok != wanted {
+		t.Fatalf("%s is %s (%d bytes), %v, not %s (%d bytes), %v", what, shown(text), len(text), ok, shown(want), len(want), wanted)
+	}
 }
 
 // noBits returns strings that are not bit strings.
