@@ -332,7 +332,7 @@ func TestHexGetRefuses(t *testing.T) {
 	}
 }
 
-// Each line of the example is checked alone, and with the lines before it.
+// The example is checked line by line, each with the lines before it.
 func TestSessionExample(t *testing.T) {
 	said(t, strings.Split(example, "\n")...)
 }
