@@ -21,6 +21,14 @@ func BitsOk(bits string) bool {
 	return true
 }
 
+// bitOf is a bit as it stands in a bit string.
+func bitOf(one bool) byte {
+	if one {
+		return '1'
+	}
+	return '0'
+}
+
 // bitsIn goes through the bits of bytes, the lowest of each byte first.
 func bitsIn(s string) iter.Seq[byte] {
 	return func(yield func(byte) bool) {
