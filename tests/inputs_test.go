@@ -85,6 +85,14 @@ func sameOk(t *testing.T, what string, text string, ok bool, want string, wanted
 	}
 }
 
+// sameBits checks bits that come behind a state.
+func sameBits[T comparable](t *testing.T, what string, state T, bits string, want T, wanted string) {
+	t.Helper()
+	if state != want || bits != wanted {
+		t.Fatalf("%s is %v, %s (%d bits), not %v, %s (%d bits)", what, state, shown(bits), len(bits), want, shown(wanted), len(wanted))
+	}
+}
+
 // noBits returns strings that are not bit strings.
 func noBits() []string {
 	return []string{

@@ -58,23 +58,16 @@ func noScramStates() []int {
 	return []int{-1, -2, -127, -128, 128, 129, 255, 256, 1 << 32, math.MaxInt, math.MinInt}
 }
 
-func sameScram(t *testing.T, what string, s int, bits string, want int, wanted string) {
-	t.Helper()
-	if s != want || bits != wanted {
-		t.Fatalf("%s is %d, %s (%d bits), not %d, %s (%d bits)", what, s, shown(bits), len(bits), want, shown(wanted), len(wanted))
-	}
-}
-
 func scrambled(t *testing.T, s int, bits string, want int, wanted string) {
 	t.Helper()
 	got, text := impl.ScramPut(s, bits)
-	sameScram(t, fmt.Sprintf("scram put of %s with %d", shown(bits), s), got, text, want, wanted)
+	sameBits(t, fmt.Sprintf("scram put of %s with %d", shown(bits), s), got, text, want, wanted)
 }
 
 func descrambled(t *testing.T, s int, bits string, want int, wanted string) {
 	t.Helper()
 	got, text := impl.ScramGet(s, bits)
-	sameScram(t, fmt.Sprintf("scram get of %s with %d", shown(bits), s), got, text, want, wanted)
+	sameBits(t, fmt.Sprintf("scram get of %s with %d", shown(bits), s), got, text, want, wanted)
 }
 
 func TestScramByHand(t *testing.T) {
@@ -97,15 +90,11 @@ func TestScramByHand(t *testing.T) {
 
 func TestScramFollowsTheDocument(t *testing.T) {
 	for s := range 128 {
-		for _, bits := range someScrams() {
-			want, wanted := slowScram(s, bits, true)
-			scrambled(t, s, bits, want, wanted)
-			want, wanted = slowScram(s, bits, false)
-			descrambled(t, s, bits, want, wanted)
+		list := someScrams()
+		if s%21 == 0 || s == 127 {
+			list = append(list, longScrams()...)
 		}
-	}
-	for _, s := range []int{0, 1, 64, 127} {
-		for _, bits := range longScrams() {
+		for _, bits := range list {
 			want, wanted := slowScram(s, bits, true)
 			scrambled(t, s, bits, want, wanted)
 			want, wanted = slowScram(s, bits, false)
@@ -124,10 +113,10 @@ func TestScramIsInvertible(t *testing.T) {
 			for _, at := range []int{0, len(bits) / 3, len(bits)} {
 				middle, first := impl.ScramPut(s, bits[:at])
 				last, second := impl.ScramPut(middle, bits[at:])
-				sameScram(t, "scram put of parts of "+shown(bits), last, first+second, end, text)
+				sameBits(t, "scram put of parts of "+shown(bits), last, first+second, end, text)
 				middle, first = impl.ScramGet(s, text[:at])
 				last, second = impl.ScramGet(middle, text[at:])
-				sameScram(t, "scram get of parts of "+shown(text), last, first+second, end, bits)
+				sameBits(t, "scram get of parts of "+shown(text), last, first+second, end, bits)
 			}
 		}
 	}
@@ -144,7 +133,7 @@ func TestScramGetSynchronizesItself(t *testing.T) {
 					same(t, "number of bits", len(got), len(bits))
 					continue
 				}
-				sameScram(t, fmt.Sprintf("scram get of %s with %d, from the eighth bit on", shown(text), other), last, got[7:], end, bits[7:])
+				sameBits(t, fmt.Sprintf("scram get of %s with %d, from the eighth bit on", shown(text), other), last, got[7:], end, bits[7:])
 			}
 		}
 	}

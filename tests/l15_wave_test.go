@@ -73,23 +73,16 @@ func manRead(t *testing.T, code string, want string, wanted bool) {
 	sameOk(t, "man get of "+shown(code), bits, ok, want, wanted)
 }
 
-func sameEdge(t *testing.T, what string, level bool, bits string, want bool, wanted string) {
-	t.Helper()
-	if level != want || bits != wanted {
-		t.Fatalf("%s is %v, %s (%d bits), not %v, %s (%d bits)", what, level, shown(bits), len(bits), want, shown(wanted), len(wanted))
-	}
-}
-
 func edgePut(t *testing.T, level bool, bits string, want bool, wanted string) {
 	t.Helper()
 	got, text := impl.EdgePut(level, bits)
-	sameEdge(t, fmt.Sprintf("edge put of %s from %v", shown(bits), level), got, text, want, wanted)
+	sameBits(t, fmt.Sprintf("edge put of %s from %v", shown(bits), level), got, text, want, wanted)
 }
 
 func edgeGet(t *testing.T, level bool, bits string, want bool, wanted string) {
 	t.Helper()
 	got, text := impl.EdgeGet(level, bits)
-	sameEdge(t, fmt.Sprintf("edge get of %s from %v", shown(bits), level), got, text, want, wanted)
+	sameBits(t, fmt.Sprintf("edge get of %s from %v", shown(bits), level), got, text, want, wanted)
 }
 
 func TestManWritesTwoForOne(t *testing.T) {
